@@ -1,0 +1,230 @@
+package tests
+
+import (
+	"fmt"
+	"math"
+	"reflect"
+	"slices"
+	"strings"
+	"testing"
+
+	"loop.example/g01177/impl"
+)
+
+// The tests of promise 11: each function accepts all arguments and modifies none of them.
+
+// phaseFunctions has all functions of chapter 1.
+func phaseFunctions() map[string]any {
+	return map[string]any{
+		"IsGauss": impl.IsGauss, "PlusGauss": impl.PlusGauss, "TimesGauss": impl.TimesGauss,
+		"ConjugateGauss": impl.ConjugateGauss, "NormOf": impl.NormOf, "PhaseValue": impl.PhaseValue,
+		"IsSequence": impl.IsSequence, "TurnBy": impl.TurnBy, "ConjugateOf": impl.ConjugateOf,
+		"BackwardsOf": impl.BackwardsOf, "ShiftBy": impl.ShiftBy, "ClimbBy": impl.ClimbBy,
+		"AlternateOf": impl.AlternateOf, "SumOf": impl.SumOf, "JoinOf": impl.JoinOf,
+		"InterleaveOf": impl.InterleaveOf, "ProductOf": impl.ProductOf, "SequenceText": impl.SequenceText,
+		"ParseSequence": impl.ParseSequence, "SequenceWith": impl.SequenceWith, "RankOf": impl.RankOf,
+		"GaussText": impl.GaussText,
+	}
+}
+
+// argument is one of the arguments to try: make lays it in memory with marks around it, and tells that memory.
+type argument struct {
+	make func(mark int) (value reflect.Value, memory []int)
+}
+
+// plain is an argument without memory that a call could change.
+func plain(value any) argument {
+	return argument{func(int) (reflect.Value, []int) { return reflect.ValueOf(value), nil }}
+}
+
+// list is a list with marks ahead of it and in the room behind its length.
+func list(s []int) argument {
+	return argument{func(mark int) (reflect.Value, []int) {
+		memory := slices.Clip(slices.Concat(repeated(mark, 3), s, repeated(mark, impl.MaxLength+8)))
+		return reflect.ValueOf(memory[3 : 3+len(s)]), memory
+	}}
+}
+
+func numberArguments() []argument {
+	var all []argument
+	for _, n := range []int{
+		math.MinInt, math.MinInt + 1, math.MinInt32, -impl.MaxPart, -1001, -1000, -33, -4, -1, 0, 1, 2, 3, 4, 14, 15, 16, 31, 32, 33,
+		999, 1000, 1001, impl.MaxPart, 1<<30 - 1, 1 << 30, 1 << 32, 1 << 62, math.MaxInt - 1, math.MaxInt,
+	} {
+		all = append(all, plain(n))
+	}
+	return all
+}
+
+func gaussArguments() []argument {
+	var all []argument
+	parts := []int{math.MinInt, -impl.MaxPart - 1, -impl.MaxPart, -1, 0, 1, 1000, impl.MaxPart, impl.MaxPart + 1, 1 << 32, math.MaxInt}
+	for _, re := range parts {
+		for _, im := range parts {
+			all = append(all, plain(g(re, im)))
+		}
+	}
+	return all
+}
+
+func textArguments() []argument {
+	texts := []string{
+		"", "0", "00", "+i-j", "+0", " +", "+\n", "\x00", "+\x00i", "\xff\xfe", "i\xc3", "\u2212", "ij,", "3-2i",
+		strings.Repeat("+", 32), strings.Repeat("j", 33), strings.Repeat("-", 32) + "0", strings.Repeat("i", 100000),
+	}
+	for b := range 256 {
+		texts = append(texts, string([]byte{byte(b)}), string([]byte{'+', byte(b)}))
+	}
+	var all []argument
+	for _, text := range texts {
+		all = append(all, plain(text))
+	}
+	return all
+}
+
+func listArguments() []argument {
+	all := []argument{plain([]int(nil))}
+	for _, s := range [][]int{
+		{}, {0}, {1}, {2}, {3}, {4}, {-1}, {math.MinInt}, {math.MaxInt}, {0, 1, 2, 3}, {3, 3, 1, 0, 2}, {0, 1, 2, 4}, {0, -1, 2, 3},
+		{math.MaxInt, math.MaxInt, math.MinInt}, rising(15), rising(16), rising(17), rising(31), rising(32), rising(33), rising(1000),
+		repeated(3, 32), append(rising(31), 4), append(rising(31), -1), repeated(math.MaxInt, 33), repeated(-1, 2000),
+	} {
+		all = append(all, list(s))
+	}
+	return all
+}
+
+// argumentsOf returns the arguments to try for a type of parameter.
+func argumentsOf(t *testing.T, kind reflect.Type) []argument {
+	switch kind {
+	case reflect.TypeFor[int]():
+		return numberArguments()
+	case reflect.TypeFor[string]():
+		return textArguments()
+	case reflect.TypeFor[gauss]():
+		return gaussArguments()
+	case reflect.TypeFor[[]int]():
+		return listArguments()
+	}
+	t.Fatal("no arguments for", kind)
+	return nil
+}
+
+// eachChoice calls do with each choice of one argument for each parameter.
+func eachChoice(pools [][]argument, chosen []argument, do func([]argument)) {
+	if len(pools) == 0 {
+		do(chosen)
+		return
+	}
+	for _, a := range pools[0] {
+		eachChoice(pools[1:], append(slices.Clone(chosen), a), do)
+	}
+}
+
+// callWith calls a function with arguments laid in memory with this mark, and checks what the call leaves behind.
+func callWith(t *testing.T, name string, f reflect.Value, arguments []argument, mark int) string {
+	t.Helper()
+	var values []reflect.Value
+	var memories, before [][]int
+	for _, a := range arguments {
+		value, memory := a.make(mark)
+		values = append(values, value)
+		memories = append(memories, memory)
+		before = append(before, slices.Clone(memory))
+	}
+	call := shortText(name, values)
+	defer func() {
+		if r := recover(); r != nil {
+			t.Errorf("%s panics: %v", call, r)
+		}
+	}()
+	results := f.Call(values)
+	told := fmt.Sprint(plainValues(results)...)
+	isKept := func() bool { return slices.EqualFunc(memories, before, slices.Equal[[]int]) }
+	if !isKept() {
+		t.Errorf("%s changes an argument", call)
+	}
+	checkZeroes(t, call, results)
+	overwrite(t, call, lists(results))
+	if !isKept() {
+		t.Errorf("%s gives out memory of an argument", call)
+	}
+	return told
+}
+
+// checkZeroes checks that a call that fails returns nothing beside its false.
+func checkZeroes(t *testing.T, call string, results []reflect.Value) {
+	t.Helper()
+	last := len(results) - 1
+	if last == 0 || results[last].Kind() != reflect.Bool || results[last].Bool() {
+		return
+	}
+	for _, r := range results[:last] {
+		if !r.IsZero() && !(r.Kind() == reflect.Slice && r.Len() == 0) {
+			t.Errorf("%s fails and returns %v", call, r)
+		}
+	}
+}
+
+// lists returns all lists of numbers among the results.
+func lists(results []reflect.Value) [][]int {
+	var all [][]int
+	for _, r := range results {
+		if s, ok := r.Interface().([]int); ok {
+			all = append(all, s)
+		}
+	}
+	return all
+}
+
+// overwrite writes through each list, in the room behind its length too, and checks that no other one changes with it.
+func overwrite(t *testing.T, call string, all [][]int) {
+	t.Helper()
+	for i, s := range all {
+		s = s[:cap(s)]
+		for j := range s {
+			s[j] = -1000 - i
+		}
+	}
+	for i, s := range all {
+		s = s[:cap(s)]
+		if !slices.Equal(s, repeated(-1000-i, len(s))) {
+			t.Errorf("%s returns two lists that share memory", call)
+		}
+	}
+}
+
+func plainValues(values []reflect.Value) []any {
+	var all []any
+	for _, v := range values {
+		all = append(all, v.Interface())
+	}
+	return all
+}
+
+func shortText(name string, values []reflect.Value) string {
+	text := called(name, plainValues(values)...)
+	return text[:min(len(text), 300)]
+}
+
+// probe tries a function with all choices of arguments. Neither what lies around them nor an earlier call may change a result.
+func probe(t *testing.T, name string, function any) {
+	f := reflect.ValueOf(function)
+	var pools [][]argument
+	for i := range f.Type().NumIn() {
+		pools = append(pools, argumentsOf(t, f.Type().In(i)))
+	}
+	eachChoice(pools, nil, func(arguments []argument) {
+		first := callWith(t, name, f, arguments, 1)
+		second := callWith(t, name, f, arguments, -77)
+		if first != second {
+			t.Errorf("%s returns %s and then %s for the same arguments", name, first, second)
+		}
+	})
+}
+
+func TestPhaseFunctionsAcceptAll(t *testing.T) {
+	for name, f := range phaseFunctions() {
+		t.Run(name, func(t *testing.T) { probe(t, name, f) })
+	}
+}
