@@ -27,6 +27,17 @@ func phaseFunctions() map[string]any {
 	}
 }
 
+// corrFunctions has all functions of chapter 2.
+func corrFunctions() map[string]any {
+	return map[string]any{
+		"AperiodicAt": impl.AperiodicAt, "PeriodicAt": impl.PeriodicAt, "OwnCorrelations": impl.OwnCorrelations,
+		"PeriodicCorrelations": impl.PeriodicCorrelations, "CrossCorrelations": impl.CrossCorrelations,
+		"SideEnergy": impl.SideEnergy, "MeritOf": impl.MeritOf, "PeakSide": impl.PeakSide, "IsBarker": impl.IsBarker,
+		"CountBarker": impl.CountBarker, "FirstBarker": impl.FirstBarker, "ValueAtRoot": impl.ValueAtRoot,
+		"PowerAtRoots": impl.PowerAtRoots, "LeastEnergy": impl.LeastEnergy,
+	}
+}
+
 // argument is one of the arguments to try: make lays it in memory with marks around it, and tells that memory.
 type argument struct {
 	make func(mark int) (value reflect.Value, memory []int)
@@ -48,7 +59,7 @@ func list(s []int) argument {
 func numberArguments() []argument {
 	var all []argument
 	for _, n := range []int{
-		math.MinInt, math.MinInt + 1, math.MinInt32, -impl.MaxPart, -1001, -1000, -33, -4, -1, 0, 1, 2, 3, 4, 14, 15, 16, 31, 32, 33,
+		math.MinInt, math.MinInt + 1, math.MinInt32, -impl.MaxPart, -1001, -1000, -33, -32, -5, -4, -1, 0, 1, 2, 3, 4, 5, 6, 7, 14, 15, 16, 31, 32, 33,
 		999, 1000, 1001, impl.MaxPart, 1<<30 - 1, 1 << 30, 1 << 32, 1 << 62, math.MaxInt - 1, math.MaxInt,
 	} {
 		all = append(all, plain(n))
@@ -132,28 +143,28 @@ func callWith(t *testing.T, name string, f reflect.Value, arguments []argument, 
 		memories = append(memories, memory)
 		before = append(before, slices.Clone(memory))
 	}
-	call := shortText(name, values)
+	call := func() string { return shortText(name, values) }
 	defer func() {
 		if r := recover(); r != nil {
-			t.Errorf("%s panics: %v", call, r)
+			t.Errorf("%s panics: %v", call(), r)
 		}
 	}()
 	results := f.Call(values)
 	told := fmt.Sprint(plainValues(results)...)
 	isKept := func() bool { return slices.EqualFunc(memories, before, slices.Equal[[]int]) }
 	if !isKept() {
-		t.Errorf("%s changes an argument", call)
+		t.Errorf("%s changes an argument", call())
 	}
 	checkZeroes(t, call, results)
 	overwrite(t, call, lists(results))
 	if !isKept() {
-		t.Errorf("%s gives out memory of an argument", call)
+		t.Errorf("%s gives out memory of an argument", call())
 	}
 	return told
 }
 
 // checkZeroes checks that a call that fails returns nothing beside its false.
-func checkZeroes(t *testing.T, call string, results []reflect.Value) {
+func checkZeroes(t *testing.T, call func() string, results []reflect.Value) {
 	t.Helper()
 	last := len(results) - 1
 	if last == 0 || results[last].Kind() != reflect.Bool || results[last].Bool() {
@@ -161,35 +172,51 @@ func checkZeroes(t *testing.T, call string, results []reflect.Value) {
 	}
 	for _, r := range results[:last] {
 		if !r.IsZero() && !(r.Kind() == reflect.Slice && r.Len() == 0) {
-			t.Errorf("%s fails and returns %v", call, r)
+			t.Errorf("%s fails and returns %v", call(), r)
 		}
 	}
 }
 
-// lists returns all lists of numbers among the results.
-func lists(results []reflect.Value) [][]int {
-	var all [][]int
+// lists returns all lists among the results, with the room behind their lengths.
+func lists(results []reflect.Value) []reflect.Value {
+	var all []reflect.Value
 	for _, r := range results {
-		if s, ok := r.Interface().([]int); ok {
-			all = append(all, s)
+		if r.Kind() == reflect.Slice {
+			all = append(all, r.Slice(0, r.Cap()))
 		}
 	}
 	return all
 }
 
+// filled returns a value of a type that has a number in each place.
+func filled(t *testing.T, kind reflect.Type, number int) reflect.Value {
+	v := reflect.New(kind).Elem()
+	switch kind.Kind() {
+	case reflect.Int:
+		v.SetInt(int64(number))
+	case reflect.Struct:
+		for i := range v.NumField() {
+			v.Field(i).Set(filled(t, kind.Field(i).Type, number))
+		}
+	default:
+		t.Fatal("no value to write over", kind)
+	}
+	return v
+}
+
 // overwrite writes through each list, in the room behind its length too, and checks that no other one changes with it.
-func overwrite(t *testing.T, call string, all [][]int) {
+func overwrite(t *testing.T, call func() string, all []reflect.Value) {
 	t.Helper()
 	for i, s := range all {
-		s = s[:cap(s)]
-		for j := range s {
-			s[j] = -1000 - i
+		for j := range s.Len() {
+			s.Index(j).Set(filled(t, s.Type().Elem(), -1000-i))
 		}
 	}
 	for i, s := range all {
-		s = s[:cap(s)]
-		if !slices.Equal(s, repeated(-1000-i, len(s))) {
-			t.Errorf("%s returns two lists that share memory", call)
+		for j := range s.Len() {
+			if !s.Index(j).Equal(filled(t, s.Type().Elem(), -1000-i)) {
+				t.Errorf("%s returns two lists that share memory", call())
+			}
 		}
 	}
 }
@@ -225,6 +252,12 @@ func probe(t *testing.T, name string, function any) {
 
 func TestPhaseFunctionsAcceptAll(t *testing.T) {
 	for name, f := range phaseFunctions() {
+		t.Run(name, func(t *testing.T) { probe(t, name, f) })
+	}
+}
+
+func TestCorrFunctionsAcceptAll(t *testing.T) {
+	for name, f := range corrFunctions() {
 		t.Run(name, func(t *testing.T) { probe(t, name, f) })
 	}
 }
