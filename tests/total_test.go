@@ -38,6 +38,16 @@ func corrFunctions() map[string]any {
 	}
 }
 
+// golayFunctions has all functions of chapter 3.
+func golayFunctions() map[string]any {
+	return map[string]any{
+		"IsGolay": impl.IsGolay, "PairSums": impl.PairSums, "CountGolay": impl.CountGolay, "FirstGolay": impl.FirstGolay,
+		"JoinPair": impl.JoinPair, "InterleavePair": impl.InterleavePair, "MateOf": impl.MateOf, "AreMates": impl.AreMates,
+		"JoinMates": impl.JoinMates, "StandardPair": impl.StandardPair, "CountStandard": impl.CountStandard,
+		"SquaresOf": impl.SquaresOf, "MovedPair": impl.MovedPair,
+	}
+}
+
 // argument is one of the arguments to try: make lays it in memory with marks around it, and tells that memory.
 type argument struct {
 	make func(mark int) (value reflect.Value, memory []int)
@@ -99,6 +109,18 @@ func listArguments() []argument {
 		{}, {0}, {1}, {2}, {3}, {4}, {-1}, {math.MinInt}, {math.MaxInt}, {0, 1, 2, 3}, {3, 3, 1, 0, 2}, {0, 1, 2, 4}, {0, -1, 2, 3},
 		{math.MaxInt, math.MaxInt, math.MinInt}, rising(15), rising(16), rising(17), rising(31), rising(32), rising(33), rising(1000),
 		repeated(3, 32), append(rising(31), 4), append(rising(31), -1), repeated(math.MaxInt, 33), repeated(-1, 2000),
+		repeated(2, 15), repeated(1, 16), {1, 0}, {2, 0, 1}, {0, 0, 2}, {4, 2, 0, 1, 3}, {4, 5, 3, 2, 1, 0}, {math.MaxInt, 0},
+	} {
+		all = append(all, list(s))
+	}
+	return all
+}
+
+// fewListArguments has lists of each kind for functions of so many lists that all choices of listArguments would take too long.
+func fewListArguments() []argument {
+	all := []argument{plain([]int(nil))}
+	for _, s := range [][]int{
+		{}, {2}, {4}, {math.MinInt, math.MaxInt}, {0, 0}, {0, 2}, {1, -1}, {2, 0}, {2, 2}, rising(16), repeated(3, 16), rising(17), rising(33), repeated(-1, 2000),
 	} {
 		all = append(all, list(s))
 	}
@@ -239,7 +261,12 @@ func probe(t *testing.T, name string, function any) {
 	f := reflect.ValueOf(function)
 	var pools [][]argument
 	for i := range f.Type().NumIn() {
-		pools = append(pools, argumentsOf(t, f.Type().In(i)))
+		kind := f.Type().In(i)
+		if f.Type().NumIn() > 3 && kind == reflect.TypeFor[[]int]() {
+			pools = append(pools, fewListArguments())
+		} else {
+			pools = append(pools, argumentsOf(t, kind))
+		}
 	}
 	eachChoice(pools, nil, func(arguments []argument) {
 		first := callWith(t, name, f, arguments, 1)
@@ -258,6 +285,12 @@ func TestPhaseFunctionsAcceptAll(t *testing.T) {
 
 func TestCorrFunctionsAcceptAll(t *testing.T) {
 	for name, f := range corrFunctions() {
+		t.Run(name, func(t *testing.T) { probe(t, name, f) })
+	}
+}
+
+func TestGolayFunctionsAcceptAll(t *testing.T) {
+	for name, f := range golayFunctions() {
 		t.Run(name, func(t *testing.T) { probe(t, name, f) })
 	}
 }
