@@ -48,22 +48,104 @@ func golayFunctions() map[string]any {
 	}
 }
 
+// hadamardFunctions has all functions of chapter 4.
+func hadamardFunctions() map[string]any {
+	return map[string]any{
+		"IsMatrix": impl.IsMatrix, "InnerOf": impl.InnerOf, "IsHadamard": impl.IsHadamard, "FourierMatrix": impl.FourierMatrix,
+		"KroneckerOf": impl.KroneckerOf, "TurnedOver": impl.TurnedOver, "ConjugateMatrix": impl.ConjugateMatrix,
+		"TurnRow": impl.TurnRow, "SwapRows": impl.SwapRows, "TurnColumn": impl.TurnColumn, "NormalMatrix": impl.NormalMatrix,
+		"ExcessOf": impl.ExcessOf, "GreatestExcess": impl.GreatestExcess, "CountHadamard": impl.CountHadamard,
+		"DeterminantOf": impl.DeterminantOf, "FirstPairOfRows": impl.FirstPairOfRows,
+	}
+}
+
+// room is memory in which an argument lies, with what lies around it: numbers, and rows that are parts of them.
+type room struct {
+	numbers []int
+	rows    [][]int
+}
+
+func (r room) copied() room {
+	return room{slices.Clone(r.numbers), slices.Clone(r.rows)}
+}
+
+// isAs tells whether memory is as it was when it was copied: the same numbers, and rows that are the same parts.
+func (r room) isAs(before room) bool {
+	return slices.Equal(r.numbers, before.numbers) && slices.EqualFunc(r.rows, before.rows, isSamePart)
+}
+
+func isSamePart(a []int, b []int) bool {
+	if len(a) != len(b) || cap(a) != cap(b) || (a == nil) != (b == nil) {
+		return false
+	}
+	return cap(a) == 0 || &a[:1][0] == &b[:1][0]
+}
+
 // argument is one of the arguments to try: make lays it in memory with marks around it, and tells that memory.
 type argument struct {
-	make func(mark int) (value reflect.Value, memory []int)
+	make func(mark int) (value reflect.Value, memory room)
 }
 
 // plain is an argument without memory that a call could change.
 func plain(value any) argument {
-	return argument{func(int) (reflect.Value, []int) { return reflect.ValueOf(value), nil }}
+	return argument{func(int) (reflect.Value, room) { return reflect.ValueOf(value), room{} }}
 }
 
 // list is a list with marks ahead of it and in the room behind its length.
 func list(s []int) argument {
-	return argument{func(mark int) (reflect.Value, []int) {
+	return argument{func(mark int) (reflect.Value, room) {
 		memory := slices.Clip(slices.Concat(repeated(mark, 3), s, repeated(mark, impl.MaxLength+8)))
-		return reflect.ValueOf(memory[3 : 3+len(s)]), memory
+		return reflect.ValueOf(memory[3 : 3+len(s)]), room{numbers: memory}
 	}}
+}
+
+// cut is where a row begins and ends in numbers; the row nil has less than 0 as both.
+type cut struct {
+	from int
+	to   int
+}
+
+// cutRows is a matrix whose rows are parts of numbers, each with the room behind it, with marks in all places that are in no row, and rows of marks ahead of the first row and in the room behind the last one.
+func cutRows(numbers []int, cuts []cut) argument {
+	return argument{func(mark int) (reflect.Value, room) {
+		memory := repeated(mark, len(numbers)+2*impl.MaxSide)
+		marked := memory[len(numbers)+impl.MaxSide:][:min(len(cuts), impl.MaxSide)]
+		rows := [][]int{marked, marked}
+		for _, c := range cuts {
+			if c.from < 0 {
+				rows = append(rows, nil)
+				continue
+			}
+			copy(memory[c.from:], numbers[c.from:c.to])
+			rows = append(rows, memory[c.from:c.to])
+		}
+		rows = slices.Clip(append(rows, slices.Repeat([][]int{marked}, impl.MaxSide+1)...))
+		return reflect.ValueOf(rows[2 : 2+len(cuts)]), room{memory, rows}
+	}}
+}
+
+// rows is a matrix whose rows lie apart.
+func rows(m [][]int) argument {
+	numbers := repeated(0, 2)
+	var cuts []cut
+	for _, row := range m {
+		if row == nil {
+			cuts = append(cuts, cut{-1, -1})
+			continue
+		}
+		cuts = append(cuts, cut{len(numbers), len(numbers) + len(row)})
+		numbers = slices.Concat(numbers, row, repeated(0, 2))
+	}
+	return cutRows(numbers, cuts)
+}
+
+// overlappingRows is a matrix of n rows, each of which begins so many numbers behind the one above it.
+func overlappingRows(n int, step int) argument {
+	var cuts []cut
+	for i := range n {
+		cuts = append(cuts, cut{step * i, step*i + n})
+	}
+	return cutRows(rising(n+step*n), cuts)
 }
 
 func numberArguments() []argument {
@@ -127,6 +209,23 @@ func fewListArguments() []argument {
 	return all
 }
 
+func matrixArguments() []argument {
+	all := []argument{plain([][]int(nil))}
+	for _, m := range [][][]int{
+		{}, {nil}, {{}}, {nil, nil}, {{0}}, {{3}}, {{4}}, {{-1}}, {{math.MinInt}}, {{math.MaxInt}}, {{0}, nil}, {nil, {0, 0}}, {{0, 0}}, {{0}, {0}},
+		{{0, 0}, {0, 2}}, {{1, 1}, {1, 1}}, {{0, 0}, {0}}, {{0}, {0, 0}}, {{0, 0}, {0, 0, 0}}, {{0, 4}, {0, 0}}, {{0, 0}, {math.MaxInt, 0}}, {{0, 0}, {0, math.MinInt}},
+		mixed(3, 0), mixed(4, 0), rowsOf("++++ +i-j +-+- +j-i"), mixed(5, 0), mixed(6, 0), mixed(8, 0), mixed(9, 0), mixed(33, 0), mixed(9, 0)[:8], append(mixed(8, 0), repeated(0, 8)),
+		append(mixed(7, 0)[:6], repeated(0, 8)), append(mixed(8, 0)[:7], repeated(-1, 8)), append(mixed(8, 0)[:7], nil), append(mixed(8, 0)[:7], rising(1000)), {rising(1000)},
+		make([][]int, 8), make([][]int, 1000), slices.Repeat([][]int{{0}}, 1000), slices.Repeat([][]int{rising(8)}, 9),
+	} {
+		all = append(all, rows(m))
+	}
+	for _, n := range []int{2, 4, 8, 9} {
+		all = append(all, overlappingRows(n, 0), overlappingRows(n, 1), overlappingRows(n, n-1))
+	}
+	return all
+}
+
 // argumentsOf returns the arguments to try for a type of parameter.
 func argumentsOf(t *testing.T, kind reflect.Type) []argument {
 	switch kind {
@@ -138,6 +237,8 @@ func argumentsOf(t *testing.T, kind reflect.Type) []argument {
 		return gaussArguments()
 	case reflect.TypeFor[[]int]():
 		return listArguments()
+	case reflect.TypeFor[[][]int]():
+		return matrixArguments()
 	}
 	t.Fatal("no arguments for", kind)
 	return nil
@@ -158,12 +259,12 @@ func eachChoice(pools [][]argument, chosen []argument, do func([]argument)) {
 func callWith(t *testing.T, name string, f reflect.Value, arguments []argument, mark int) string {
 	t.Helper()
 	var values []reflect.Value
-	var memories, before [][]int
+	var memories, before []room
 	for _, a := range arguments {
 		value, memory := a.make(mark)
 		values = append(values, value)
 		memories = append(memories, memory)
-		before = append(before, slices.Clone(memory))
+		before = append(before, memory.copied())
 	}
 	call := func() string { return shortText(name, values) }
 	defer func() {
@@ -173,7 +274,7 @@ func callWith(t *testing.T, name string, f reflect.Value, arguments []argument, 
 	}()
 	results := f.Call(values)
 	told := fmt.Sprint(plainValues(results)...)
-	isKept := func() bool { return slices.EqualFunc(memories, before, slices.Equal[[]int]) }
+	isKept := func() bool { return slices.EqualFunc(memories, before, room.isAs) }
 	if !isKept() {
 		t.Errorf("%s changes an argument", call())
 	}
@@ -199,13 +300,19 @@ func checkZeroes(t *testing.T, call func() string, results []reflect.Value) {
 	}
 }
 
-// lists returns all lists among the results, with the room behind their lengths.
+// lists returns all lists among the results, with the room behind their lengths, and the rows of each ahead of it.
 func lists(results []reflect.Value) []reflect.Value {
 	var all []reflect.Value
 	for _, r := range results {
-		if r.Kind() == reflect.Slice {
-			all = append(all, r.Slice(0, r.Cap()))
+		if r.Kind() != reflect.Slice {
+			continue
 		}
+		if r.Type().Elem().Kind() == reflect.Slice {
+			for i := range r.Len() {
+				all = append(all, lists([]reflect.Value{r.Index(i)})...)
+			}
+		}
+		all = append(all, r.Slice(0, r.Cap()))
 	}
 	return all
 }
@@ -220,6 +327,8 @@ func filled(t *testing.T, kind reflect.Type, number int) reflect.Value {
 		for i := range v.NumField() {
 			v.Field(i).Set(filled(t, kind.Field(i).Type, number))
 		}
+	case reflect.Slice:
+		v.Set(reflect.Append(v, filled(t, kind.Elem(), number)))
 	default:
 		t.Fatal("no value to write over", kind)
 	}
@@ -236,11 +345,18 @@ func overwrite(t *testing.T, call func() string, all []reflect.Value) {
 	}
 	for i, s := range all {
 		for j := range s.Len() {
-			if !s.Index(j).Equal(filled(t, s.Type().Elem(), -1000-i)) {
+			if !isSameValue(s.Index(j), filled(t, s.Type().Elem(), -1000-i)) {
 				t.Errorf("%s returns two lists that share memory", call())
 			}
 		}
 	}
+}
+
+func isSameValue(a reflect.Value, b reflect.Value) bool {
+	if a.Comparable() {
+		return a.Equal(b)
+	}
+	return reflect.DeepEqual(a.Interface(), b.Interface())
 }
 
 func plainValues(values []reflect.Value) []any {
@@ -291,6 +407,12 @@ func TestCorrFunctionsAcceptAll(t *testing.T) {
 
 func TestGolayFunctionsAcceptAll(t *testing.T) {
 	for name, f := range golayFunctions() {
+		t.Run(name, func(t *testing.T) { probe(t, name, f) })
+	}
+}
+
+func TestHadamardFunctionsAcceptAll(t *testing.T) {
+	for name, f := range hadamardFunctions() {
 		t.Run(name, func(t *testing.T) { probe(t, name, f) })
 	}
 }
