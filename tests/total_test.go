@@ -59,19 +59,30 @@ func hadamardFunctions() map[string]any {
 	}
 }
 
-// room is memory in which an argument lies, with what lies around it: numbers, and rows that are parts of them.
+// transformFunctions has all functions of chapter 5.
+func transformFunctions() map[string]any {
+	return map[string]any{
+		"TransformOf": impl.TransformOf, "TransformBack": impl.TransformBack, "TransformStep": impl.TransformStep,
+		"TransformOfSequence": impl.TransformOfSequence, "EnergyOf": impl.EnergyOf, "ConvolveOf": impl.ConvolveOf,
+		"CorrelateOf": impl.CorrelateOf, "MoveOf": impl.MoveOf, "WaveOf": impl.WaveOf, "IsFlat": impl.IsFlat,
+		"CountFlat": impl.CountFlat, "DualOf": impl.DualOf, "WalshOf": impl.WalshOf, "WalshBack": impl.WalshBack,
+	}
+}
+
+// room is memory in which an argument lies, with what lies around it: numbers, rows that are parts of them, and Gaussian numbers.
 type room struct {
 	numbers []int
 	rows    [][]int
+	gausses []gauss
 }
 
 func (r room) copied() room {
-	return room{slices.Clone(r.numbers), slices.Clone(r.rows)}
+	return room{slices.Clone(r.numbers), slices.Clone(r.rows), slices.Clone(r.gausses)}
 }
 
 // isAs tells whether memory is as it was when it was copied: the same numbers, and rows that are the same parts.
 func (r room) isAs(before room) bool {
-	return slices.Equal(r.numbers, before.numbers) && slices.EqualFunc(r.rows, before.rows, isSamePart)
+	return slices.Equal(r.numbers, before.numbers) && slices.EqualFunc(r.rows, before.rows, isSamePart) && slices.Equal(r.gausses, before.gausses)
 }
 
 func isSamePart(a []int, b []int) bool {
@@ -91,11 +102,25 @@ func plain(value any) argument {
 	return argument{func(int) (reflect.Value, room) { return reflect.ValueOf(value), room{} }}
 }
 
-// list is a list with marks ahead of it and in the room behind its length.
+// marked returns memory with a list in it, and the list: marks lie ahead of it and in the room behind its length.
+func marked[T any](list []T, mark T) (memory []T, inside []T) {
+	memory = slices.Clip(slices.Concat(slices.Repeat([]T{mark}, 3), list, slices.Repeat([]T{mark}, impl.MaxLength+8)))
+	return memory, memory[3 : 3+len(list)]
+}
+
+// list is a list with marks around it.
 func list(s []int) argument {
 	return argument{func(mark int) (reflect.Value, room) {
-		memory := slices.Clip(slices.Concat(repeated(mark, 3), s, repeated(mark, impl.MaxLength+8)))
-		return reflect.ValueOf(memory[3 : 3+len(s)]), room{numbers: memory}
+		memory, inside := marked(s, mark)
+		return reflect.ValueOf(inside), room{numbers: memory}
+	}}
+}
+
+// gaussList is a list of Gaussian numbers with marks around it.
+func gaussList(z []gauss) argument {
+	return argument{func(mark int) (reflect.Value, room) {
+		memory, inside := marked(z, g(mark, -mark))
+		return reflect.ValueOf(inside), room{gausses: memory}
 	}}
 }
 
@@ -120,7 +145,7 @@ func cutRows(numbers []int, cuts []cut) argument {
 			rows = append(rows, memory[c.from:c.to])
 		}
 		rows = slices.Clip(append(rows, slices.Repeat([][]int{marked}, impl.MaxSide+1)...))
-		return reflect.ValueOf(rows[2 : 2+len(cuts)]), room{memory, rows}
+		return reflect.ValueOf(rows[2 : 2+len(cuts)]), room{numbers: memory, rows: rows}
 	}}
 }
 
@@ -226,6 +251,27 @@ func matrixArguments() []argument {
 	return all
 }
 
+// gaussListArguments has signals, lists of all lengths near theirs and of overlong ones, and lists with parts at each limit and past it.
+func gaussListArguments() []argument {
+	all := []argument{plain([]gauss(nil)), gaussList([]gauss{})}
+	for n := 1; n <= 34; n++ {
+		all = append(all, gaussList(mixedNumbers(n, 0, 9)))
+	}
+	for _, n := range []int{63, 64, 65, 256, 1000} {
+		all = append(all, gaussList(make([]gauss, n)), gaussList(slices.Repeat([]gauss{g(math.MinInt, math.MaxInt)}, n)))
+	}
+	for _, n := range walshLengths() {
+		for _, size := range []int{1, 1000, most / n} {
+			all = append(all, gaussList(withOne(n, g(0, 0), n-1, g(n, size))), gaussList(slices.Repeat([]gauss{g(size, -size)}, n)))
+		}
+		all = append(all, gaussList(forward(mixedNumbers(n, 1, 9))), gaussList(walsh(mixedNumbers(n, 2, 9))))
+		for i, bad := range notGauss() {
+			all = append(all, gaussList(withOne(n, g(1, 0), i%n, bad)), gaussList(slices.Repeat([]gauss{bad}, n)))
+		}
+	}
+	return all
+}
+
 // argumentsOf returns the arguments to try for a type of parameter.
 func argumentsOf(t *testing.T, kind reflect.Type) []argument {
 	switch kind {
@@ -239,6 +285,8 @@ func argumentsOf(t *testing.T, kind reflect.Type) []argument {
 		return listArguments()
 	case reflect.TypeFor[[][]int]():
 		return matrixArguments()
+	case reflect.TypeFor[[]gauss]():
+		return gaussListArguments()
 	}
 	t.Fatal("no arguments for", kind)
 	return nil
@@ -413,6 +461,12 @@ func TestGolayFunctionsAcceptAll(t *testing.T) {
 
 func TestHadamardFunctionsAcceptAll(t *testing.T) {
 	for name, f := range hadamardFunctions() {
+		t.Run(name, func(t *testing.T) { probe(t, name, f) })
+	}
+}
+
+func TestTransformFunctionsAcceptAll(t *testing.T) {
+	for name, f := range transformFunctions() {
 		t.Run(name, func(t *testing.T) { probe(t, name, f) })
 	}
 }
