@@ -23,22 +23,12 @@ func rowsOf(text string) [][]int {
 
 // made returns the matrix of n rows that has at(i, j), modulo 4, in the row i and the column j.
 func made(n int, at func(i int, j int) int) [][]int {
-	m := make([][]int, n)
-	for i := range m {
-		for j := range n {
-			m[i] = append(m[i], (at(i, j)%4+4)%4)
-		}
-	}
-	return m
+	return madeArray(n, n, at)
 }
 
 // mixed returns a matrix without a simple order, another one for each seed.
 func mixed(n int, seed int) [][]int {
-	state := uint32(1000*n + seed)
-	return made(n, func(int, int) int {
-		state = state*1664525 + 1013904223
-		return int(state >> 28)
-	})
+	return mixedArray(n, n, seed)
 }
 
 // wantMatrix fails the test unless all rows are as wanted; where ok is not wanted, there are to be none.

@@ -62,6 +62,26 @@ func someSequences() [][]int {
 	return all
 }
 
+// madeArray returns rows that have at(i, j), modulo 4, in the row i and the column j.
+func madeArray(rows int, columns int, at func(i int, j int) int) [][]int {
+	m := make([][]int, rows)
+	for i := range m {
+		for j := range columns {
+			m[i] = append(m[i], (at(i, j)%4+4)%4)
+		}
+	}
+	return m
+}
+
+// mixedArray returns rows without a simple order, other ones for each seed.
+func mixedArray(rows int, columns int, seed int) [][]int {
+	state := uint32(1000*columns + seed)
+	return madeArray(rows, columns, func(int, int) int {
+		state = state*1664525 + 1013904223
+		return int(state >> 28)
+	})
+}
+
 // wantList fails the test unless the result is as wanted; where ok is not wanted, the list is to be zero.
 func wantList[T comparable](t *testing.T, call string, got []T, ok bool, want []T, fine bool) {
 	t.Helper()

@@ -69,6 +69,16 @@ func transformFunctions() map[string]any {
 	}
 }
 
+// perfectFunctions has all functions of chapter 6.
+func perfectFunctions() map[string]any {
+	return map[string]any{
+		"IsPerfect": impl.IsPerfect, "CountPerfect": impl.CountPerfect, "AllPerfect": impl.AllPerfect, "FirstPerfect": impl.FirstPerfect,
+		"FrankOf": impl.FrankOf, "IsArray": impl.IsArray, "ArrayAt": impl.ArrayAt, "IsPerfectArray": impl.IsPerfectArray,
+		"OuterArray": impl.OuterArray, "FoldOf": impl.FoldOf, "UnfoldOf": impl.UnfoldOf, "CountPerfectArrays": impl.CountPerfectArrays,
+		"ShiftArray": impl.ShiftArray, "ShiftMatrix": impl.ShiftMatrix,
+	}
+}
+
 // room is memory in which an argument lies, with what lies around it: numbers, rows that are parts of them, and Gaussian numbers.
 type room struct {
 	numbers []int
@@ -164,19 +174,19 @@ func rows(m [][]int) argument {
 	return cutRows(numbers, cuts)
 }
 
-// overlappingRows is a matrix of n rows, each of which begins so many numbers behind the one above it.
-func overlappingRows(n int, step int) argument {
+// overlappingRows is a matrix or an array, each of whose rows begins so many numbers behind the one above it.
+func overlappingRows(rows int, columns int, step int) argument {
 	var cuts []cut
-	for i := range n {
-		cuts = append(cuts, cut{step * i, step*i + n})
+	for i := range rows {
+		cuts = append(cuts, cut{step * i, step*i + columns})
 	}
-	return cutRows(rising(n+step*n), cuts)
+	return cutRows(rising(columns+step*rows), cuts)
 }
 
 func numberArguments() []argument {
 	var all []argument
 	for _, n := range []int{
-		math.MinInt, math.MinInt + 1, math.MinInt32, -impl.MaxPart, -1001, -1000, -33, -32, -5, -4, -1, 0, 1, 2, 3, 4, 5, 6, 7, 14, 15, 16, 31, 32, 33,
+		math.MinInt, math.MinInt + 1, math.MinInt32, -impl.MaxPart, -1001, -1000, -33, -32, -5, -4, -1, 0, 1, 2, 3, 4, 5, 6, 7, 8, 9, 14, 15, 16, 31, 32, 33,
 		999, 1000, 1001, impl.MaxPart, 1<<30 - 1, 1 << 30, 1 << 32, 1 << 62, math.MaxInt - 1, math.MaxInt,
 	} {
 		all = append(all, plain(n))
@@ -217,6 +227,7 @@ func listArguments() []argument {
 		{math.MaxInt, math.MaxInt, math.MinInt}, rising(15), rising(16), rising(17), rising(31), rising(32), rising(33), rising(1000),
 		repeated(3, 32), append(rising(31), 4), append(rising(31), -1), repeated(math.MaxInt, 33), repeated(-1, 2000),
 		repeated(2, 15), repeated(1, 16), {1, 0}, {2, 0, 1}, {0, 0, 2}, {4, 2, 0, 1, 3}, {4, 5, 3, 2, 1, 0}, {math.MaxInt, 0},
+		{3, 0, 2, 1}, rising(6), rising(8), rising(9), {0, 0, 0, 2}, {0, 0, 0, -2}, {0, 0, 0, 1, 2, 0, 2, 1},
 	} {
 		all = append(all, list(s))
 	}
@@ -242,11 +253,13 @@ func matrixArguments() []argument {
 		mixed(3, 0), mixed(4, 0), rowsOf("++++ +i-j +-+- +j-i"), mixed(5, 0), mixed(6, 0), mixed(8, 0), mixed(9, 0), mixed(33, 0), mixed(9, 0)[:8], append(mixed(8, 0), repeated(0, 8)),
 		append(mixed(7, 0)[:6], repeated(0, 8)), append(mixed(8, 0)[:7], repeated(-1, 8)), append(mixed(8, 0)[:7], nil), append(mixed(8, 0)[:7], rising(1000)), {rising(1000)},
 		make([][]int, 8), make([][]int, 1000), slices.Repeat([][]int{{0}}, 1000), slices.Repeat([][]int{rising(8)}, 9),
+		rowsOf("+++-"), rowsOf("+ i"), rowsOf("++- jii"), rowsOf("+j +i -i"), rowsOf("+++- +i-i"), rowsOf("+i- j+"), {{0, 1, 2}, nil}, {{0, 1, 2}, {0, 1, 4}},
+		mixedArray(1, 8, 0), mixedArray(8, 1, 0), mixedArray(1, 9, 0), mixedArray(9, 1, 0), mixedArray(4, 8, 0), mixedArray(5, 6, 0), mixedArray(5, 7, 0), mixedArray(8, 7, 0), mixedArray(8, 9, 0),
 	} {
 		all = append(all, rows(m))
 	}
 	for _, n := range []int{2, 4, 8, 9} {
-		all = append(all, overlappingRows(n, 0), overlappingRows(n, 1), overlappingRows(n, n-1))
+		all = append(all, overlappingRows(n, n, 0), overlappingRows(n, n, 1), overlappingRows(n, n, n-1), overlappingRows(n, 3, 0), overlappingRows(n, 3, 1))
 	}
 	return all
 }
@@ -433,6 +446,9 @@ func probe(t *testing.T, name string, function any) {
 		}
 	}
 	eachChoice(pools, nil, func(arguments []argument) {
+		if t.Failed() { // the texts of all calls that fail would take minutes
+			return
+		}
 		first := callWith(t, name, f, arguments, 1)
 		second := callWith(t, name, f, arguments, -77)
 		if first != second {
@@ -467,6 +483,12 @@ func TestHadamardFunctionsAcceptAll(t *testing.T) {
 
 func TestTransformFunctionsAcceptAll(t *testing.T) {
 	for name, f := range transformFunctions() {
+		t.Run(name, func(t *testing.T) { probe(t, name, f) })
+	}
+}
+
+func TestPerfectFunctionsAcceptAll(t *testing.T) {
+	for name, f := range perfectFunctions() {
 		t.Run(name, func(t *testing.T) { probe(t, name, f) })
 	}
 }
