@@ -79,6 +79,16 @@ func perfectFunctions() map[string]any {
 	}
 }
 
+// modemFunctions has all functions of chapter 7.
+func modemFunctions() map[string]any {
+	return map[string]any{
+		"ModulateBits": impl.ModulateBits, "DemodulatePhases": impl.DemodulatePhases, "StepsOf": impl.StepsOf, "FromSteps": impl.FromSteps,
+		"NearestPhase": impl.NearestPhase, "DecideOf": impl.DecideOf, "PointsOf": impl.PointsOf, "TurnPoints": impl.TurnPoints,
+		"BestTurn": impl.BestTurn, "FindFrame": impl.FindFrame, "AllFrames": impl.AllFrames, "SendFrame": impl.SendFrame,
+		"ReceiveFrame": impl.ReceiveFrame, "ErrorsOf": impl.ErrorsOf, "MixPhases": impl.MixPhases,
+	}
+}
+
 // room is memory in which an argument lies, with what lies around it: numbers, rows that are parts of them, and Gaussian numbers.
 type room struct {
 	numbers []int
@@ -187,7 +197,7 @@ func numberArguments() []argument {
 	var all []argument
 	for _, n := range []int{
 		math.MinInt, math.MinInt + 1, math.MinInt32, -impl.MaxPart, -1001, -1000, -33, -32, -5, -4, -1, 0, 1, 2, 3, 4, 5, 6, 7, 8, 9, 14, 15, 16, 31, 32, 33,
-		999, 1000, 1001, impl.MaxPart, 1<<30 - 1, 1 << 30, 1 << 32, 1 << 62, math.MaxInt - 1, math.MaxInt,
+		62, 63, 64, 65, 66, 255, 256, 999, 1000, 1001, impl.MaxPart, 1<<30 - 1, 1 << 30, 1 << 32, 1 << 62, math.MaxInt - 1, math.MaxInt,
 	} {
 		all = append(all, plain(n))
 	}
@@ -228,6 +238,7 @@ func listArguments() []argument {
 		repeated(3, 32), append(rising(31), 4), append(rising(31), -1), repeated(math.MaxInt, 33), repeated(-1, 2000),
 		repeated(2, 15), repeated(1, 16), {1, 0}, {2, 0, 1}, {0, 0, 2}, {4, 2, 0, 1, 3}, {4, 5, 3, 2, 1, 0}, {math.MaxInt, 0},
 		{3, 0, 2, 1}, rising(6), rising(8), rising(9), {0, 0, 0, 2}, {0, 0, 0, -2}, {0, 0, 0, 1, 2, 0, 2, 1},
+		{0, 1}, {1, 1, 0, 1}, mixedBits(32, 0), mixedBits(63, 0), mixedBits(64, 0), mixedBits(64, 1), append(mixedBits(63, 0), 2), append(mixedBits(63, 0), -1), mixedBits(65, 0), mixedBits(66, 0),
 	} {
 		all = append(all, list(s))
 	}
@@ -264,11 +275,19 @@ func matrixArguments() []argument {
 	return all
 }
 
-// gaussListArguments has signals, lists of all lengths near theirs and of overlong ones, and lists with parts at each limit and past it.
+// gaussListArguments has signals of all chapters, with frames and without, lists of all lengths near theirs and of overlong ones, and lists with parts at each limit and past it.
 func gaussListArguments() []argument {
 	all := []argument{plain([]gauss(nil)), gaussList([]gauss{})}
 	for n := 1; n <= 34; n++ {
 		all = append(all, gaussList(mixedNumbers(n, 0, 9)))
+	}
+	for _, n := range []int{35, 46, 47, 48, 49, 50} {
+		all = append(all, gaussList(mixedNumbers(n, 0, 9)), gaussList(onRays(rising(n))), gaussList(rayPoints(n, 0)), gaussList(onRays(repeated(3, n))))
+	}
+	for _, n := range []int{1, 33, 47, 48} {
+		for i, bad := range notGauss() {
+			all = append(all, gaussList(changed(onRays(rising(n)), n-1-i%n, bad)))
+		}
 	}
 	for _, n := range []int{63, 64, 65, 256, 1000} {
 		all = append(all, gaussList(make([]gauss, n)), gaussList(slices.Repeat([]gauss{g(math.MinInt, math.MaxInt)}, n)))
@@ -489,6 +508,12 @@ func TestTransformFunctionsAcceptAll(t *testing.T) {
 
 func TestPerfectFunctionsAcceptAll(t *testing.T) {
 	for name, f := range perfectFunctions() {
+		t.Run(name, func(t *testing.T) { probe(t, name, f) })
+	}
+}
+
+func TestModemFunctionsAcceptAll(t *testing.T) {
+	for name, f := range modemFunctions() {
 		t.Run(name, func(t *testing.T) { probe(t, name, f) })
 	}
 }
