@@ -89,6 +89,16 @@ func modemFunctions() map[string]any {
 	}
 }
 
+// spreadFunctions has all functions of chapter 8.
+func spreadFunctions() map[string]any {
+	return map[string]any{
+		"AreCodes": impl.AreCodes, "AreOrthogonal": impl.AreOrthogonal, "SpreadOf": impl.SpreadOf, "MatchOf": impl.MatchOf,
+		"GatherOf": impl.GatherOf, "DelayedOf": impl.DelayedOf, "AddSignals": impl.AddSignals, "FilterOf": impl.FilterOf,
+		"FindDelay": impl.FindDelay, "PeakOf": impl.PeakOf, "DisturbanceOf": impl.DisturbanceOf, "GreatestSet": impl.GreatestSet,
+		"ExtendCodes": impl.ExtendCodes,
+	}
+}
+
 // room is memory in which an argument lies, with what lies around it: numbers, rows that are parts of them, and Gaussian numbers.
 type room struct {
 	numbers []int
@@ -215,6 +225,15 @@ func gaussArguments() []argument {
 	return all
 }
 
+// fewGaussArguments has numbers of each kind for functions of so many parameters that all choices of gaussArguments would take too long.
+func fewGaussArguments() []argument {
+	var all []argument
+	for _, z := range []gauss{g(0, 0), g(1, 0), g(-3, 2), g(impl.MaxPart, -impl.MaxPart), g(impl.MaxPart+1, 0), g(0, -impl.MaxPart-1), g(math.MinInt, math.MaxInt), g(1, 1<<32)} {
+		all = append(all, plain(z))
+	}
+	return all
+}
+
 func textArguments() []argument {
 	texts := []string{
 		"", "0", "00", "+i-j", "+0", " +", "+\n", "\x00", "+\x00i", "\xff\xfe", "i\xc3", "\u2212", "ij,", "3-2i",
@@ -266,11 +285,12 @@ func matrixArguments() []argument {
 		make([][]int, 8), make([][]int, 1000), slices.Repeat([][]int{{0}}, 1000), slices.Repeat([][]int{rising(8)}, 9),
 		rowsOf("+++-"), rowsOf("+ i"), rowsOf("++- jii"), rowsOf("+j +i -i"), rowsOf("+++- +i-i"), rowsOf("+i- j+"), {{0, 1, 2}, nil}, {{0, 1, 2}, {0, 1, 4}},
 		mixedArray(1, 8, 0), mixedArray(8, 1, 0), mixedArray(1, 9, 0), mixedArray(9, 1, 0), mixedArray(4, 8, 0), mixedArray(5, 6, 0), mixedArray(5, 7, 0), mixedArray(8, 7, 0), mixedArray(8, 9, 0),
+		mixedArray(4, 1, 0), mixedArray(5, 1, 0), walshCodes(2), walshCodes(8)[:4], walshCodes(8)[:5], walshCodes(16)[:4], walshCodes(16)[:9], walshCodes(32)[:8], mixedArray(8, 32, 0), mixedArray(9, 32, 0), mixedArray(2, 33, 0), {nil, rising(32)}, append(mixedArray(7, 32, 0), rising(31)), append(mixedArray(7, 32, 0), append(rising(31), 4)),
 	} {
 		all = append(all, rows(m))
 	}
 	for _, n := range []int{2, 4, 8, 9} {
-		all = append(all, overlappingRows(n, n, 0), overlappingRows(n, n, 1), overlappingRows(n, n, n-1), overlappingRows(n, 3, 0), overlappingRows(n, 3, 1))
+		all = append(all, overlappingRows(n, n, 0), overlappingRows(n, n, 1), overlappingRows(n, n, n-1), overlappingRows(n, 3, 0), overlappingRows(n, 3, 1), overlappingRows(n, 32, 0), overlappingRows(n, 32, 1))
 	}
 	return all
 }
@@ -281,10 +301,10 @@ func gaussListArguments() []argument {
 	for n := 1; n <= 34; n++ {
 		all = append(all, gaussList(mixedNumbers(n, 0, 9)))
 	}
-	for _, n := range []int{35, 46, 47, 48, 49, 50} {
+	for _, n := range []int{35, 46, 47, 48, 49, 50, 63, 64, 65} {
 		all = append(all, gaussList(mixedNumbers(n, 0, 9)), gaussList(onRays(rising(n))), gaussList(rayPoints(n, 0)), gaussList(onRays(repeated(3, n))))
 	}
-	for _, n := range []int{1, 33, 47, 48} {
+	for _, n := range []int{1, 33, 47, 48, 64} {
 		for i, bad := range notGauss() {
 			all = append(all, gaussList(changed(onRays(rising(n)), n-1-i%n, bad)))
 		}
@@ -458,9 +478,12 @@ func probe(t *testing.T, name string, function any) {
 	var pools [][]argument
 	for i := range f.Type().NumIn() {
 		kind := f.Type().In(i)
-		if f.Type().NumIn() > 3 && kind == reflect.TypeFor[[]int]() {
+		switch isLong := f.Type().NumIn() > 3; {
+		case isLong && kind == reflect.TypeFor[[]int]():
 			pools = append(pools, fewListArguments())
-		} else {
+		case isLong && kind == reflect.TypeFor[gauss]():
+			pools = append(pools, fewGaussArguments())
+		default:
 			pools = append(pools, argumentsOf(t, kind))
 		}
 	}
@@ -514,6 +537,12 @@ func TestPerfectFunctionsAcceptAll(t *testing.T) {
 
 func TestModemFunctionsAcceptAll(t *testing.T) {
 	for name, f := range modemFunctions() {
+		t.Run(name, func(t *testing.T) { probe(t, name, f) })
+	}
+}
+
+func TestSpreadFunctionsAcceptAll(t *testing.T) {
+	for name, f := range spreadFunctions() {
 		t.Run(name, func(t *testing.T) { probe(t, name, f) })
 	}
 }
