@@ -99,6 +99,16 @@ func spreadFunctions() map[string]any {
 	}
 }
 
+// classFunctions has all functions of chapter 9.
+func classFunctions() map[string]any {
+	return map[string]any{
+		"IsMove": impl.IsMove, "ApplyMove": impl.ApplyMove, "MoveBack": impl.MoveBack, "OrbitOf": impl.OrbitOf, "LeastOf": impl.LeastOf,
+		"AreEquivalent": impl.AreEquivalent, "MoveBetween": impl.MoveBetween, "KeepersOf": impl.KeepersOf,
+		"CountClasses": impl.CountClasses, "ClassHeads": impl.ClassHeads, "CountFixed": impl.CountFixed, "SizesOf": impl.SizesOf,
+		"ClassEnergies": impl.ClassEnergies,
+	}
+}
+
 // room is memory in which an argument lies, with what lies around it: numbers, rows that are parts of them, and Gaussian numbers.
 type room struct {
 	numbers []int
@@ -258,6 +268,7 @@ func listArguments() []argument {
 		repeated(2, 15), repeated(1, 16), {1, 0}, {2, 0, 1}, {0, 0, 2}, {4, 2, 0, 1, 3}, {4, 5, 3, 2, 1, 0}, {math.MaxInt, 0},
 		{3, 0, 2, 1}, rising(6), rising(8), rising(9), {0, 0, 0, 2}, {0, 0, 0, -2}, {0, 0, 0, 1, 2, 0, 2, 1},
 		{0, 1}, {1, 1, 0, 1}, mixedBits(32, 0), mixedBits(63, 0), mixedBits(64, 0), mixedBits(64, 1), append(mixedBits(63, 0), 2), append(mixedBits(63, 0), -1), mixedBits(65, 0), mixedBits(66, 0),
+		{0, 0, 0, 0}, {3, 3, 1, 1}, {1, 2, 0, 1}, {0, 0, 1, 0}, {4, 0, 0, 0}, {0, -1, 0, 0}, {0, 0, 2, 0}, {0, 0, 0, math.MinInt}, {math.MaxInt, 0, 1, 1}, {3, 3, 1}, {1, 1, 1, 1, 1}, mixedPhases(7, 0), mixedPhases(15, 0), folds(15, 0)[2],
 	} {
 		all = append(all, list(s))
 	}
@@ -543,6 +554,12 @@ func TestModemFunctionsAcceptAll(t *testing.T) {
 
 func TestSpreadFunctionsAcceptAll(t *testing.T) {
 	for name, f := range spreadFunctions() {
+		t.Run(name, func(t *testing.T) { probe(t, name, f) })
+	}
+}
+
+func TestClassFunctionsAcceptAll(t *testing.T) {
+	for name, f := range classFunctions() {
 		t.Run(name, func(t *testing.T) { probe(t, name, f) })
 	}
 }
