@@ -5,6 +5,7 @@ import (
 	"math"
 	"reflect"
 	"slices"
+	"strconv"
 	"strings"
 	"testing"
 
@@ -106,6 +107,14 @@ func classFunctions() map[string]any {
 		"AreEquivalent": impl.AreEquivalent, "MoveBetween": impl.MoveBetween, "KeepersOf": impl.KeepersOf,
 		"CountClasses": impl.CountClasses, "ClassHeads": impl.ClassHeads, "CountFixed": impl.CountFixed, "SizesOf": impl.SizesOf,
 		"ClassEnergies": impl.ClassEnergies,
+	}
+}
+
+// consoleFunctions has all functions of chapter 10.
+func consoleFunctions() map[string]any {
+	return map[string]any{
+		"FirstDesk": impl.FirstDesk, "IsDesk": impl.IsDesk, "DeskLine": impl.DeskLine, "RunScript": impl.RunScript,
+		"DeskAfter": impl.DeskAfter, "FailedLines": impl.FailedLines,
 	}
 }
 
@@ -213,6 +222,32 @@ func overlappingRows(rows int, columns int, step int) argument {
 	return cutRows(rising(columns+step*rows), cuts)
 }
 
+// desk is a desk whose sequences are parts of numbers, each with the room behind it, with marks around them.
+func desk(numbers []int, a cut, b cut) argument {
+	return argument{func(mark int) (reflect.Value, room) {
+		memory, inside := marked(repeated(mark, len(numbers)), mark)
+		part := func(c cut) []int {
+			if c.from < 0 {
+				return nil
+			}
+			copy(inside[c.from:], numbers[c.from:c.to])
+			return inside[c.from:c.to]
+		}
+		return reflect.ValueOf(impl.Desk{A: part(a), B: part(b)}), room{numbers: memory}
+	}}
+}
+
+// apart is a desk whose sequences lie apart, B in the room behind A.
+func apart(a []int, b []int) argument {
+	cutOf := func(list []int, from int) cut {
+		if list == nil {
+			return cut{-1, -1}
+		}
+		return cut{from, from + len(list)}
+	}
+	return desk(slices.Concat(a, repeated(0, 2), b), cutOf(a, 0), cutOf(b, len(a)+2))
+}
+
 func numberArguments() []argument {
 	var all []argument
 	for _, n := range []int{
@@ -249,12 +284,44 @@ func textArguments() []argument {
 		"", "0", "00", "+i-j", "+0", " +", "+\n", "\x00", "+\x00i", "\xff\xfe", "i\xc3", "\u2212", "ij,", "3-2i",
 		strings.Repeat("+", 32), strings.Repeat("j", 33), strings.Repeat("-", 32) + "0", strings.Repeat("i", 100000),
 	}
+	texts = append(texts, lineTexts()...)
 	for b := range 256 {
 		texts = append(texts, string([]byte{byte(b)}), string([]byte{'+', byte(b)}))
 	}
 	var all []argument
 	for _, text := range texts {
 		all = append(all, plain(text))
+	}
+	return all
+}
+
+// lineTexts has lines of every row of the console's table, others, and scripts of them.
+func lineTexts() []string {
+	lines := append(plainNames(), "a +i-j", "a 0", "b jj", "b 0", "turn 1", "turn 0", "turn 1001", "climb 3", "climb 4", "shift 2", "shift 999999", "join 0", "join 3", "join 4", "bits 0,1,1,1", "bits 1", "a "+textFor(rising(32)), "b "+textFor(rising(33)), "bits "+bitsText(64, 0), "bits "+bitsText(66, 0))
+	texts := append(slices.Clone(lines), "fly", "turn", "turn 01", "turn 1000000", "turn 9223372036854775808", "a", "a  +", "a \x00", "b \xff", "bits ", "bits 0,,1", "swap ", " swap", "  ", "show\r")
+	texts = append(texts, scriptOf(lines...), scriptOf(lines[:8]...), scriptOf(texts...), scriptOf("", "fly", ""), "show", "show\nshow", "\n\n\n", strings.Repeat("\n", impl.MaxLines), strings.Repeat("\n", impl.MaxLines+1))
+	for seed := range 10 {
+		texts = append(texts, scriptOf(mixedLines(5*seed+1, seed)...))
+	}
+	for n := impl.MaxScript - 1; n <= impl.MaxScript+2; n++ {
+		texts = append(texts, strings.Repeat("x", n), strings.Repeat("x", n-1)+"\n", "swap\n"+strings.Repeat(" ", n-6)+"\n", "a "+strings.Repeat("+", n-2), "bits 0"+strings.Repeat(",0", n/2-3))
+	}
+	return texts
+}
+
+// deskArguments has desks with sequences that lie apart and ones that share memory, nil and empty lists, and lists that are no sequences.
+func deskArguments() []argument {
+	all := []argument{plain(impl.Desk{}), plain(impl.FirstDesk())}
+	for _, p := range [][2][]int{
+		{nil, {}}, {{}, nil}, {{}, {}}, {nil, {0}}, {{3}, nil}, {{}, {1, 2}}, {{1}, {2}}, {{0, 0}, {0, 2}}, {{0, 0}, {0, 0}}, {{0, 1, 2}, {3}}, {{1}, {0, 1, 2}}, {{0, 1, 3}, {1, 1, 3}}, {{0, 0, 0, 2}, {0, 0, 2, 0}},
+		{rising(15), rising(15)}, {rising(16), rising(16)}, {rising(16), rising(15)}, {rising(17), rising(17)}, {rising(32), rising(32)}, {rising(32), nil}, {nil, rising(32)}, {mixedPhases(32, 0), mixedPhases(31, 0)},
+		{{4}, {0}}, {{0}, {4}}, {{-1}, nil}, {nil, {-1}}, {{0, math.MaxInt}, {0, 0}}, {{0, 0}, {math.MinInt, 0}}, {rising(33), {0}}, {{0}, rising(33)}, {rising(33), rising(33)}, {rising(1000), nil}, {nil, rising(1000)}, {repeated(-1, 2000), repeated(4, 2000)}, {append(rising(31), 4), rising(32)}, {rising(32), append(rising(31), -1)},
+	} {
+		all = append(all, apart(p[0], p[1]))
+	}
+	for _, n := range []int{1, 2, 7, 15, 32} {
+		numbers := mixedPhases(n, 0)
+		all = append(all, desk(numbers, cut{0, n}, cut{0, n}), desk(numbers, cut{0, n}, cut{n / 2, n}), desk(numbers, cut{0, n / 2}, cut{0, n}), desk(numbers, cut{0, n / 2}, cut{n / 2, n}), desk(numbers, cut{n / 2, n}, cut{0, n / 2}))
 	}
 	return all
 }
@@ -350,6 +417,8 @@ func argumentsOf(t *testing.T, kind reflect.Type) []argument {
 		return matrixArguments()
 	case reflect.TypeFor[[]gauss]():
 		return gaussListArguments()
+	case reflect.TypeFor[impl.Desk]():
+		return deskArguments()
 	}
 	t.Fatal("no arguments for", kind)
 	return nil
@@ -384,7 +453,7 @@ func callWith(t *testing.T, name string, f reflect.Value, arguments []argument, 
 		}
 	}()
 	results := f.Call(values)
-	told := fmt.Sprint(plainValues(results)...)
+	told := fmt.Sprint(plainValues(append(results, lists(results)...))...) // the room behind the lists, too: nothing from behind an argument may lie there
 	isKept := func() bool { return slices.EqualFunc(memories, before, room.isAs) }
 	if !isKept() {
 		t.Errorf("%s changes an argument", call())
@@ -411,10 +480,15 @@ func checkZeroes(t *testing.T, call func() string, results []reflect.Value) {
 	}
 }
 
-// lists returns all lists among the results, with the room behind their lengths, and the rows of each ahead of it.
+// lists returns all lists among the results and in them, with the room behind their lengths, and the rows of each ahead of it.
 func lists(results []reflect.Value) []reflect.Value {
 	var all []reflect.Value
 	for _, r := range results {
+		if r.Kind() == reflect.Struct {
+			for i := range r.NumField() {
+				all = append(all, lists([]reflect.Value{r.Field(i)})...)
+			}
+		}
 		if r.Kind() != reflect.Slice {
 			continue
 		}
@@ -434,6 +508,8 @@ func filled(t *testing.T, kind reflect.Type, number int) reflect.Value {
 	switch kind.Kind() {
 	case reflect.Int:
 		v.SetInt(int64(number))
+	case reflect.String:
+		v.SetString(strconv.Itoa(number))
 	case reflect.Struct:
 		for i := range v.NumField() {
 			v.Field(i).Set(filled(t, kind.Field(i).Type, number))
@@ -510,56 +586,52 @@ func probe(t *testing.T, name string, function any) {
 	})
 }
 
-func TestPhaseFunctionsAcceptAll(t *testing.T) {
-	for name, f := range phaseFunctions() {
-		t.Run(name, func(t *testing.T) { probe(t, name, f) })
+// probeAll tries all functions of a chapter side by side, as each of them takes its time.
+func probeAll(t *testing.T, functions map[string]any) {
+	for name, f := range functions {
+		t.Run(name, func(t *testing.T) {
+			t.Parallel()
+			probe(t, name, f)
+		})
 	}
+}
+
+func TestPhaseFunctionsAcceptAll(t *testing.T) {
+	probeAll(t, phaseFunctions())
 }
 
 func TestCorrFunctionsAcceptAll(t *testing.T) {
-	for name, f := range corrFunctions() {
-		t.Run(name, func(t *testing.T) { probe(t, name, f) })
-	}
+	probeAll(t, corrFunctions())
 }
 
 func TestGolayFunctionsAcceptAll(t *testing.T) {
-	for name, f := range golayFunctions() {
-		t.Run(name, func(t *testing.T) { probe(t, name, f) })
-	}
+	probeAll(t, golayFunctions())
 }
 
 func TestHadamardFunctionsAcceptAll(t *testing.T) {
-	for name, f := range hadamardFunctions() {
-		t.Run(name, func(t *testing.T) { probe(t, name, f) })
-	}
+	probeAll(t, hadamardFunctions())
 }
 
 func TestTransformFunctionsAcceptAll(t *testing.T) {
-	for name, f := range transformFunctions() {
-		t.Run(name, func(t *testing.T) { probe(t, name, f) })
-	}
+	probeAll(t, transformFunctions())
 }
 
 func TestPerfectFunctionsAcceptAll(t *testing.T) {
-	for name, f := range perfectFunctions() {
-		t.Run(name, func(t *testing.T) { probe(t, name, f) })
-	}
+	probeAll(t, perfectFunctions())
 }
 
 func TestModemFunctionsAcceptAll(t *testing.T) {
-	for name, f := range modemFunctions() {
-		t.Run(name, func(t *testing.T) { probe(t, name, f) })
-	}
+	probeAll(t, modemFunctions())
 }
 
 func TestSpreadFunctionsAcceptAll(t *testing.T) {
-	for name, f := range spreadFunctions() {
-		t.Run(name, func(t *testing.T) { probe(t, name, f) })
-	}
+	probeAll(t, spreadFunctions())
 }
 
 func TestClassFunctionsAcceptAll(t *testing.T) {
-	for name, f := range classFunctions() {
-		t.Run(name, func(t *testing.T) { probe(t, name, f) })
-	}
+	probeAll(t, classFunctions())
+}
+
+func TestConsoleFunctionsAcceptAll(t *testing.T) {
+	probeAll(t, consoleFunctions())
 }
